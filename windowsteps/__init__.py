@@ -1,0 +1,1 @@
+"""Windowsteps: change settings that must keep within windows of each other."""
