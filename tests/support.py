@@ -1,5 +1,6 @@
 """What several tests use: wrong inputs of every kind, exact errors, and the document's examples."""
 
+import time
 import unittest
 
 from windowsteps import errors
@@ -31,6 +32,24 @@ def objects():
     ]
 
 
+def mangled(parts):
+    """Lists made from a list of tuples in which one part is changed, left out, put in or repeated."""
+    parts = list(parts)
+    yield tuple(parts)
+    yield [parts]
+    yield [*parts, None]
+    for at, part in enumerate(parts):
+        before, after = parts[:at], parts[at + 1:]
+        yield before + after
+        yield before + [part, part] + after
+        yield before + [list(part)] + after
+        for inner in range(len(part)):
+            for other in (None, True, False, 0, 1, -1, 2, 10 ** 39, "a", "b", "", [part[inner]], (), {}):
+                yield before + [part[:inner] + (other,) + part[inner + 1:]] + after
+            yield before + [part[:inner] + part[inner + 1:]] + after
+            yield before + [part[:inner] + part[inner:inner + 1] * 2 + part[inner + 1:]] + after
+
+
 class Case(unittest.TestCase):
     def assert_raises_exactly(self, kind, call, *arguments, **more):
         """Checks that a call raises this very class, and leaves its arguments as they were."""
@@ -42,6 +61,13 @@ class Case(unittest.TestCase):
         else:
             self.fail(f"{outcome!r} was returned where {kind.__name__} should be raised")
         self.assertEqual(repr((arguments, more)), before)
+
+    def assert_quick(self, call, *arguments, seconds=0.9):
+        """Checks that a call takes less than so many seconds, and returns what it returns."""
+        start = time.perf_counter()
+        outcome = call(*arguments)
+        self.assertLess(time.perf_counter() - start, seconds)
+        return outcome
 
     def assert_same(self, outcome, wanted):
         """Checks for equal values of equal kinds, with the keys of dicts in the same order."""

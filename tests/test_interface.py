@@ -3,7 +3,7 @@
 import inspect
 import unittest
 
-from windowsteps import figures, systems
+from windowsteps import blocks, figures, moves, systems, texts, windows
 
 FUNCTIONS = [
     (figures, "shortfall", ["system", "numbers", "rule"]),
@@ -11,7 +11,21 @@ FUNCTIONS = [
     (figures, "is_admitted", ["system", "numbers"]),
     (figures, "smaller", ["system", "one", "two"]),
     (figures, "greater", ["system", "one", "two"]),
+    (texts, "format_system", ["system"]),
+    (texts, "parse_system", ["text"]),
+    (windows, "contradiction", ["system"]),
+    (windows, "is_contradiction", ["system", "thing"]),
+    (windows, "tightest", ["system", "low", "high"]),
+    (windows, "chain", ["system", "low", "high"]),
+    (windows, "window", ["system", "name"]),
+    (blocks, "blocks", ["system"]),
+    (blocks, "grounded", ["system"]),
+    (blocks, "block_of", ["system", "name"]),
+    (moves, "after_step", ["system", "numbers", "step"]),
+    (moves, "is_safe", ["system", "numbers", "step"]),
+    (moves, "safe_steps", ["system", "numbers"]),
 ]
+GENERATORS = ["safe_steps"]
 
 
 class InterfaceTest(unittest.TestCase):
@@ -22,6 +36,7 @@ class InterfaceTest(unittest.TestCase):
                 self.assertTrue(inspect.isfunction(function))
                 self.assertEqual(function.__module__, module.__name__)
                 self.assert_plain_parameters(function, parameters)
+                self.assertIs(inspect.isgeneratorfunction(function), name in GENERATORS)
 
     def test_system(self):
         body = vars(systems.System)

@@ -17,10 +17,7 @@ def shortfall(system, numbers, rule):
 def first_breach(system, numbers):
     """The first rule, in ascending order, that does not hold, or None."""
     check_numbers(system, numbers)
-    for rule in system.rules:
-        if shortfall_of(rule, numbers) > 0:
-            return rule
-    return None
+    return breach_of(system, numbers)
 
 
 def is_admitted(system, numbers):
@@ -44,11 +41,24 @@ def greater(system, one, two):
 
 def check_numbers(system, thing):
     """Raise InvalidNumbers for any object that is not numbers of the system."""
+    if not are_numbers(system, thing):
+        raise InvalidNumbers("numbers must give each setting an integer from -99999 to 99999")
+
+
+def are_numbers(system, thing):
+    """Whether any object is numbers of the system."""
     names = system.names
     if not isinstance(thing, dict) or len(thing) != len(names):
-        raise InvalidNumbers("numbers must be a dict from all names of settings")
-    if not all([name in thing and _is_number(thing[name]) for name in names]):
-        raise InvalidNumbers("each setting must have an integer from -99999 to 99999")
+        return False
+    return all([name in thing and _is_number(thing[name]) for name in names])
+
+
+def breach_of(system, numbers):
+    """The first rule that does not hold, or None, for numbers that are known to be valid."""
+    for rule in system.rules:
+        if shortfall_of(rule, numbers) > 0:
+            return rule
+    return None
 
 
 def shortfall_of(rule, numbers):

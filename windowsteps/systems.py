@@ -37,6 +37,10 @@ class System:
             raise UnknownRule("this is not a rule of the system")
         return System(self._names, [kept for kept in self._rules if kept != rule])
 
+    def has_setting(self, thing):
+        """Whether any object is the name of a setting of this system."""
+        return thing in self._names
+
     def has_rule(self, thing):
         """Whether any object is a rule of this system."""
         # Without the first test a gap of True would pass for a gap of 1.
@@ -75,10 +79,11 @@ def _are_rules_between(things, names):
 
 def _ascending(rules):
     different = {rule: True for rule in rules}
-    return sorted(different, key=_rank)
+    return sorted(different, key=rank)
 
 
-def _rank(rule):
+def rank(rule):
+    """What the ascending order of rules compares."""
     # Python does not compare None with strings; "" comes before every name, as the ground must.
     low, high, gap = rule
     return low or "", high or "", gap
