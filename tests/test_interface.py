@@ -3,7 +3,7 @@
 import inspect
 import unittest
 
-from windowsteps import blocks, figures, moves, systems, texts, windows
+from windowsteps import binds, blocks, cheapest, figures, moves, sequences, systems, tasks, texts, windows
 
 FUNCTIONS = [
     (figures, "shortfall", ["system", "numbers", "rule"]),
@@ -24,8 +24,18 @@ FUNCTIONS = [
     (moves, "after_step", ["system", "numbers", "step"]),
     (moves, "is_safe", ["system", "numbers", "step"]),
     (moves, "safe_steps", ["system", "numbers"]),
+    (sequences, "least_steps", ["system", "old", "new"]),
+    (sequences, "sequence", ["system", "old", "new"]),
+    (sequences, "is_sequence", ["system", "old", "new", "thing"]),
+    (sequences, "moments", ["system", "old", "new"]),
+    (tasks, "price_of", ["task", "numbers"]),
+    (tasks, "is_solution", ["task", "numbers"]),
+    (binds, "bind", ["task"]),
+    (binds, "is_bind", ["task", "thing"]),
+    (cheapest, "least_price", ["task"]),
+    (cheapest, "cheapest", ["task"]),
 ]
-GENERATORS = ["safe_steps"]
+GENERATORS = ["safe_steps", "moments"]
 
 
 class InterfaceTest(unittest.TestCase):
@@ -49,6 +59,25 @@ class InterfaceTest(unittest.TestCase):
             self.assertIsInstance(body[name], property)
         self.assertIsInstance(body["is_rule"], staticmethod)
         self.assert_plain_parameters(systems.System.is_rule, ["thing"])
+
+    def test_prices(self):
+        body = vars(tasks.Prices)
+        self.assertEqual(tasks.Prices.__module__, "windowsteps.tasks")
+        parameters = list(inspect.signature(tasks.Prices).parameters.values())
+        self.assertEqual([parameter.name for parameter in parameters], ["raising", "lowering"])
+        for parameter in parameters:
+            self.assertEqual(parameter.kind, parameter.KEYWORD_ONLY)
+            self.assertEqual(repr(parameter.default), "1")
+        self.assert_plain_parameters(body["with_price"], ["self", "name", "price"])
+        for name in ("raising", "lowering", "single"):
+            self.assertIsInstance(body[name], property)
+
+    def test_task(self):
+        body = vars(tasks.Task)
+        self.assertEqual(tasks.Task.__module__, "windowsteps.tasks")
+        self.assert_plain_parameters(body["__init__"], ["self", "system", "numbers", "prices"])
+        for name in ("system", "numbers", "prices"):
+            self.assertIsInstance(body[name], property)
 
     def assert_plain_parameters(self, function, names):
         parameters = list(inspect.signature(function).parameters.values())

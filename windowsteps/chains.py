@@ -42,17 +42,34 @@ def way_to(arcs, last, end):
 
 def rising_ring(things, arcs):
     """The positions of the arcs of a ring with a total above 0, or None."""
-    totals = {thing: 0 for thing in things}
-    last = {}
-    for _ in things:
-        raised = _raise_highs(arcs, totals, last)
-        if not raised:
-            return None
+    _, last, raised = _raised_from_0(things, arcs)
+    if not raised:
+        return None
     # What was raised in as many rounds as there are things has a ring among the arcs that raised it.
     thing = raised[0]
     for _ in things:
         thing = arcs[last[thing]][0]
     return _ring_to(arcs, last, thing)
+
+
+def heights(things, arcs):
+    """A number for each thing, 0 for the ground, such that all arcs hold as rules do; None if there are none."""
+    totals, _, raised = _raised_from_0(things, arcs)
+    if raised:
+        return None
+    return {thing: totals[thing] - totals[None] for thing in things}
+
+
+def _raised_from_0(things, arcs):
+    """Totals raised from 0 as arcs ask, the last arcs that did so, and what the last possible round raised."""
+    totals = {thing: 0 for thing in things}
+    last = {}
+    raised = list(things)
+    rounds = 0
+    while raised and rounds < len(things):
+        raised = _raise_highs(arcs, totals, last)
+        rounds += 1
+    return totals, last, raised
 
 
 def _ring_to(arcs, last, thing):
