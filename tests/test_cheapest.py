@@ -167,6 +167,22 @@ class RangeTest(CheapestCase):
         for a, b, numbers in ((99999, 99999, {"a": 99994, "b": 99999}), (-99999, -99999, {"a": -99999, "b": -99994})):
             self.assert_same(cheapest(Task(step, {"a": a, "b": b}, Prices())), (5, numbers))
 
+    def test_small_tasks_moved_to_the_ends(self):
+        solved = 0
+        for task in oracles.small_tasks(52, 150):
+            system = System(task.system.names, [rule for rule in task.system.rules if None not in rule])
+            level = Task(system, task.numbers, task.prices)
+            wanted = oracles.least_price_in_box(level, 6)
+            prices = [(oracles.price(level, numbers), numbers) for numbers in oracles.admitted_in_box(system, 6)]
+            cheapest_ones = [numbers for price, numbers in prices if price == wanted is not None]
+            for far in (99997, -99997):
+                # Nothing is promised where all cheapest numbers lie outside of the range.
+                if any(all(abs(number + far) <= 99999 for number in row.values()) for row in cheapest_ones):
+                    moved = {name: number + far for name, number in level.numbers.items()}
+                    self.assert_least(Task(system, moved, level.prices), wanted)
+                    solved += 1
+        self.assertGreater(solved, 100)
+
     def test_old_numbers_at_the_ends(self):
         system = System(["a", "b"], [("a", "b", 5), ("b", "a", -7)])
         for a in (-99999, 99999):

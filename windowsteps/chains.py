@@ -53,10 +53,11 @@ def rising_ring(things, arcs):
 
 
 def heights(things, arcs):
-    """A number for each thing, 0 for the ground, such that all arcs hold as rules do; None if there are none."""
-    totals, _, raised = _raised_from_0(things, arcs)
-    if raised:
-        return None
+    """A number for each thing, 0 for the ground, such that all arcs hold as rules do.
+
+    No ring may have a total above 0.
+    """
+    totals, _, _ = _raised_from_0(things, arcs)
     return {thing: totals[thing] - totals[None] for thing in things}
 
 

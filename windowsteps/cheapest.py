@@ -3,7 +3,7 @@
 from windowsteps.binds import bind
 from windowsteps.chains import heights
 from windowsteps.errors import NoSolution
-from windowsteps.figures import GREATEST_NUMBER, shortfall_of
+from windowsteps.figures import shortfall_of
 from windowsteps.flows import full_network
 from windowsteps.windows import contradiction
 
@@ -32,13 +32,8 @@ def _total(task, network):
 
 def _numbers(task, network):
     """Numbers that satisfy all arcs with room, which makes their price the total of the amounts."""
+    # All things start level with the ground and are raised no further than the arcs demand, so
+    # that these numbers leave the range only where all cheapest ones do.
     names = task.system.names
-    things = [None, *names]
-    arcs = network.open_arcs()
-    # Some cheapest numbers may lie outside of the range although others do not.
-    above = [(None, name, -GREATEST_NUMBER) for name in names]
-    below = [(name, None, -GREATEST_NUMBER) for name in names]
-    found = heights(things, [*arcs, *above, *below])
-    if found is None:
-        found = heights(things, arcs)
+    found = heights([None, *names], network.open_arcs())
     return {name: found[name] for name in names}
