@@ -344,3 +344,57 @@ def least_price_of_a_row(gaps, old, costs):
         paid = [max(height - worth, 0) * up + max(worth - height, 0) * down for height in heights]
         best = [least + each for least, each in zip(itertools.accumulate(best, min), paid)]
     return min(best)
+
+
+def shortfall(rule, numbers):
+    low, high, gap = rule
+    return number(low, numbers) + gap - number(high, numbers)
+
+
+def is_amounts(task, thing):
+    """Whether any object is amounts, by a walk over the rules."""
+    rules = task.system.rules
+    if type(thing) is not list or len(thing) != len(rules):
+        return False
+    if any(type(amount) is not int or amount < 0 or len(str(amount)) > 12 for amount in thing):
+        return False
+    surplus = {each: 0 for each in things_of(task.system)}
+    for (low, high, _), amount in zip(rules, thing):
+        surplus[high] += amount
+        surplus[low] -= amount
+    for name in task.system.names:
+        each = prices_of(task.prices, name)
+        if each is not None and not -each[1] <= surplus[name] <= each[0]:
+            return False
+    return True
+
+
+def total_of_amounts(task, amounts):
+    whole = 0
+    for at, rule in enumerate(task.system.rules):
+        whole += amounts[at] * shortfall(rule, task.numbers)
+    return whole
+
+
+def all_moves(system):
+    """All moves of a system: all sets of settings, up and down."""
+    names = system.names
+    for many in range(1, len(names) + 1):
+        for chosen in itertools.combinations(names, many):
+            yield (chosen, 1)
+            yield (chosen, -1)
+
+
+def better_moves(task, numbers):
+    """All better moves for a solution, by trying all sets of settings."""
+    whole = price(task, numbers)
+    found = []
+    for names, change in all_moves(task.system):
+        after = {name: worth + change * (name in names) for name, worth in numbers.items()}
+        if admitted(task.system, after) and price(task, after) is not None and price(task, after) < whole:
+            found.append((names, change))
+    return found
+
+
+def solutions_in_box(task, bound):
+    return [numbers for numbers in admitted_in_box(task.system, bound) if price(task, numbers) is not None]

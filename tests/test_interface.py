@@ -3,7 +3,10 @@
 import inspect
 import unittest
 
-from windowsteps import binds, blocks, cheapest, figures, moves, sequences, systems, tasks, texts, windows
+from windowsteps import (
+    better, binds, blocks, certificates, cheapest, figures, merging, moves, plans, sequences, systems, tasks, texts,
+    windows,
+)
 
 FUNCTIONS = [
     (figures, "shortfall", ["system", "numbers", "rule"]),
@@ -34,6 +37,14 @@ FUNCTIONS = [
     (binds, "is_bind", ["task", "thing"]),
     (cheapest, "least_price", ["task"]),
     (cheapest, "cheapest", ["task"]),
+    (certificates, "total", ["task", "amounts"]),
+    (certificates, "certificate", ["task"]),
+    (certificates, "check_certificate", ["task", "thing", "bar"]),
+    (better, "better_move", ["task", "numbers"]),
+    (better, "is_better", ["task", "numbers", "thing"]),
+    (merging, "merged", ["system", "base", "one", "two"]),
+    (merging, "conflicts", ["system", "base", "one", "two"]),
+    (merging, "merge_task", ["system", "base", "one", "two", "prices"]),
 ]
 GENERATORS = ["safe_steps", "moments"]
 
@@ -78,6 +89,22 @@ class InterfaceTest(unittest.TestCase):
         self.assert_plain_parameters(body["__init__"], ["self", "system", "numbers", "prices"])
         for name in ("system", "numbers", "prices"):
             self.assertIsInstance(body[name], property)
+
+    def test_plan(self):
+        methods = {name: [] for name in ("advance", "back", "finish", "abandon", "turned", "copy")}
+        methods["__init__"] = ["system", "old", "new"]
+        self.assert_class(plans, "Plan", methods, ["steps", "done", "current", "is_finished"])
+
+    def assert_class(self, module, name, methods, properties):
+        """Checks for methods with plain parameters and for properties in the very body of a class."""
+        kind = getattr(module, name)
+        self.assertEqual(kind.__module__, module.__name__)
+        for method, parameters in methods.items():
+            with self.subTest(name=name, method=method):
+                self.assert_plain_parameters(vars(kind)[method], ["self", *parameters])
+        for each in properties:
+            with self.subTest(name=name, property=each):
+                self.assertIsInstance(vars(kind)[each], property)
 
     def assert_plain_parameters(self, function, names):
         parameters = list(inspect.signature(function).parameters.values())

@@ -1,6 +1,6 @@
 """Numbers of the settings of a system, and whether its rules hold for them."""
 
-from windowsteps.errors import InvalidNumbers, UnknownRule
+from windowsteps.errors import InvalidNumbers, NotAdmitted, UnknownRule
 from windowsteps.kinds import is_integer_within
 
 GREATEST_NUMBER = 99999
@@ -50,7 +50,7 @@ def are_numbers(system, thing):
     names = system.names
     if not isinstance(thing, dict) or len(thing) != len(names):
         return False
-    return all([name in thing and _is_number(thing[name]) for name in names])
+    return all([name in thing and is_number(thing[name]) for name in names])
 
 
 def breach_of(system, numbers):
@@ -59,6 +59,13 @@ def breach_of(system, numbers):
         if shortfall_of(rule, numbers) > 0:
             return rule
     return None
+
+
+def check_admitted(system, numbers):
+    """Raise NotAdmitted with the first breach of numbers that are known to be valid."""
+    breach = breach_of(system, numbers)
+    if breach is not None:
+        raise NotAdmitted(breach)
 
 
 def shortfall_of(rule, numbers):
@@ -74,5 +81,6 @@ def number_of(thing, numbers):
     return numbers[thing]
 
 
-def _is_number(thing):
+def is_number(thing):
+    """Whether any object is an integer that a setting can have."""
     return is_integer_within(thing, -GREATEST_NUMBER, GREATEST_NUMBER)

@@ -5,7 +5,8 @@ upwards exceed those that push it downwards by no more than its price of raising
 round by no more than its price of lowering. The greatest such sum is the least price.
 """
 
-from windowsteps.chains import greatest_totals, way_to
+from windowsteps.chains import greatest_totals, heights, way_to
+from windowsteps.figures import shortfall_of
 
 # Amounts never come near to it, as prices are below 1000 and settings few.
 UNLIMITED = 1000000000
@@ -30,9 +31,12 @@ class Network:
         """The amounts of the first arcs that were added, if they were without room back."""
         return [self._room[2 * place + 1] for place in range(many)]
 
-    def open_arcs(self):
-        """The arcs with room."""
-        return [self._arcs[at] for at in self._open_positions()]
+    def levels(self, names):
+        """Numbers that satisfy all arcs with room, which makes their price the total of the amounts."""
+        # All things start level with the ground and are raised no further than the arcs demand, so
+        # that these numbers leave the range only where all cheapest ones do.
+        found = heights([None, *names], [self._arcs[at] for at in self._open_positions()])
+        return {name: found[name] for name in names}
 
     def double(self):
         """Double all room and, as it is room in the other direction, all amounts."""
@@ -59,11 +63,20 @@ class Network:
         return [at for at in range(len(self._arcs)) if self._room[at] > 0]
 
 
-def full_network(task):
-    """The network of a task without a contradiction or a bind, with the amounts of the greatest total."""
+def total_of_amounts(task, amounts):
+    """The sum of each amount times the shortfall of its rule for the old numbers."""
+    old = task.numbers
+    return sum([amount * shortfall_of(rule, old) for amount, rule in zip(amounts, task.system.rules)])
+
+
+def full_network(task, bounds=()):
+    """The network of a task that has a solution, with the amounts of the greatest total.
+
+    Bounds are further arcs, behind those of the rules, that the numbers must satisfy; a solution must do so.
+    """
     network = Network()
-    for rule in task.system.rules:
-        network.add_both_ways(rule, UNLIMITED, 0)
+    for arc in [*task.system.rules, *bounds]:
+        network.add_both_ways(arc, UNLIMITED, 0)
     prices = _add_settings(network, task)
     # The prices are put in bit by bit: each bit doubles what is there and adds at most one to it,
     # so that the number of searches does not depend on the prices.

@@ -9,11 +9,7 @@ from windowsteps.kinds import is_integer, is_name
 def after_step(system, numbers, step):
     """The numbers after a step."""
     check_numbers(system, numbers)
-    named = named_blocks(system)
-    if not is_step(named, step):
-        raise InvalidStep("a step must be a tuple of the name of a block and 1 or -1")
-    name, change = step
-    return moved(system, numbers, named[name], change)
+    return stepped(system, numbers, step)
 
 
 def is_safe(system, numbers, step):
@@ -35,6 +31,15 @@ def safe_steps(system, numbers):
                 yield (block[0], change)
 
 
+def stepped(system, numbers, step):
+    """The numbers after a step, for numbers that are known to be valid."""
+    named = named_blocks(system)
+    if not is_step(named, step):
+        raise InvalidStep("a step must be a tuple of the name of a block and 1 or -1")
+    name, change = step
+    return moved(system, numbers, named[name], change)
+
+
 def named_blocks(system):
     """The blocks by their names."""
     return {block[0]: block for block in blocks(system)}
@@ -45,12 +50,17 @@ def is_step(named, thing):
     if not isinstance(thing, tuple) or len(thing) != 2:
         return False
     name, change = thing
-    return is_name(name) and name in named and is_integer(change) and change in (-1, 1)
+    return is_name(name) and name in named and is_change(change)
 
 
-def moved(system, numbers, block, change):
-    """The numbers with a change of those of a block."""
-    return {name: numbers[name] + (change if name in block else 0) for name in system.names}
+def is_change(thing):
+    """Whether any object is 1 or -1."""
+    return is_integer(thing) and thing in (-1, 1)
+
+
+def moved(system, numbers, names, change):
+    """The numbers with a change of those of some settings."""
+    return {name: numbers[name] + (change if name in names else 0) for name in system.names}
 
 
 def holds(system, moved_numbers):

@@ -1,8 +1,7 @@
 """Sequences of steps between admitted numbers, on which no setting moves away from its goal."""
 
 from windowsteps.blocks import blocks
-from windowsteps.errors import NotAdmitted
-from windowsteps.figures import breach_of, check_numbers, shortfall_of
+from windowsteps.figures import check_admitted, check_numbers, shortfall_of
 from windowsteps.moves import holds, is_step, moved, named_blocks
 
 
@@ -14,7 +13,7 @@ def least_steps(system, old, new):
 
 def sequence(system, old, new):
     """A sequence of the least length, each step the first one that is safe and leads towards the goal."""
-    return [step for step, _ in _walk(system, old, new)]
+    return [step for step, _ in steps_with_moments(system, old, new)]
 
 
 def is_sequence(system, old, new, thing):
@@ -36,20 +35,11 @@ def is_sequence(system, old, new, thing):
 
 def moments(system, old, new):
     """Yield the numbers after each step of sequence."""
-    for _, numbers in _walk(system, old, new):
+    for _, numbers in steps_with_moments(system, old, new):
         yield numbers
 
 
-def _check_both_admitted(system, old, new):
-    check_numbers(system, old)
-    check_numbers(system, new)
-    for numbers in (old, new):
-        breach = breach_of(system, numbers)
-        if breach is not None:
-            raise NotAdmitted(breach)
-
-
-def _walk(system, old, new):
+def steps_with_moments(system, old, new):
     """Yield each step of sequence with the numbers after it."""
     _check_both_admitted(system, old, new)
     ways = [_way(system, block, old, new) for block in blocks(system)]
@@ -60,6 +50,13 @@ def _walk(system, old, new):
         numbers = moved(system, numbers, block, change)
         yield (block[0], change), dict(numbers)
         way = _first_open(ways, numbers, new)
+
+
+def _check_both_admitted(system, old, new):
+    check_numbers(system, old)
+    check_numbers(system, new)
+    check_admitted(system, old)
+    check_admitted(system, new)
 
 
 def _way(system, block, old, new):
