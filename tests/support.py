@@ -4,7 +4,12 @@ import time
 import unittest
 
 from windowsteps import errors
+from windowsteps.board import Board
+from windowsteps.history import History
+from windowsteps.plans import Plan
+from windowsteps.shell import Shell
 from windowsteps.systems import System
+from windowsteps.tasks import Prices, Task
 
 
 def nested(depth):
@@ -28,7 +33,8 @@ def objects():
         {}, {"a": True}, {"a": None}, {"a": "0"}, {"b": [0]}, {0: "a", "a": 0}, {1: {2: {3: ()}}},
         {"a": 0, "b": 100000}, {"a": -100000, "b": 0}, {"a": 0, "b": False}, {"a": 0, "b": 0, "c": 0},
         {"a": 0, "b": 0, 0: 0}, {"a": 0, "B": 0}, {"a": 0, "b": (0,)}, {"a": 0, "b": 10 ** 39},
-        System([], []), System(["a", "b"], [("a", "b", 1)]),
+        System([], []), System(["a", "b"], [("a", "b", 1)]), Prices(), Task(System([], []), {}, Prices()),
+        Plan(System([], []), {}, {}), History(System([], []), {}), Board(), Shell(),
     ]
 
 

@@ -4,8 +4,8 @@ import inspect
 import unittest
 
 from windowsteps import (
-    better, binds, blocks, certificates, cheapest, figures, merging, moves, plans, sequences, systems, tasks, texts,
-    windows,
+    better, binds, blocks, board, certificates, cheapest, figures, history, merging, moves, plans, repairs, sequences,
+    shell, systems, tasks, texts, windows,
 )
 
 FUNCTIONS = [
@@ -45,6 +45,9 @@ FUNCTIONS = [
     (merging, "merged", ["system", "base", "one", "two"]),
     (merging, "conflicts", ["system", "base", "one", "two"]),
     (merging, "merge_task", ["system", "base", "one", "two", "prices"]),
+    (repairs, "eased", ["system", "numbers"]),
+    (repairs, "walk", ["system", "old", "new"]),
+    (repairs, "repair", ["task"]),
 ]
 GENERATORS = ["safe_steps", "moments"]
 
@@ -94,6 +97,30 @@ class InterfaceTest(unittest.TestCase):
         methods = {name: [] for name in ("advance", "back", "finish", "abandon", "turned", "copy")}
         methods["__init__"] = ["system", "old", "new"]
         self.assert_class(plans, "Plan", methods, ["steps", "done", "current", "is_finished"])
+
+    def test_history(self):
+        methods = {
+            "__init__": ["system", "numbers"], "step": ["step"], "demand": ["rule"], "waive": ["rule"],
+            "settle": ["prices"], "undo": [], "copy": [], "__len__": [],
+        }
+        self.assert_class(history, "History", methods, ["system", "numbers", "breaches", "spent"])
+
+    def test_board(self):
+        methods = {
+            "__init__": [], "create": ["name", "text"], "require": ["name", "rule"], "free": ["name", "rule"],
+            "move": ["name", "block", "change"], "lead": ["name", "numbers"], "drop": ["name"], "mark": ["label"],
+            "back": ["label"], "batch": ["commands"], "system_of": ["name"], "numbers_of": ["name"],
+            "spent_on": ["name"], "copy": [],
+        }
+        self.assert_class(board, "Board", methods, ["names", "log"])
+        _, name, *prices = inspect.signature(board.Board.settle).parameters.values()
+        self.assertEqual([name.name, name.kind], ["name", name.POSITIONAL_OR_KEYWORD])
+        self.assertEqual([parameter.name for parameter in prices], ["raising", "lowering"])
+        for parameter in prices:
+            self.assertEqual([parameter.kind, repr(parameter.default)], [parameter.KEYWORD_ONLY, "1"])
+
+    def test_shell(self):
+        self.assert_class(shell, "Shell", {"__init__": [], "run": ["line"]}, [])
 
     def assert_class(self, module, name, methods, properties):
         """Checks for methods with plain parameters and for properties in the very body of a class."""

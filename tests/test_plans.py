@@ -82,8 +82,8 @@ class WalkingTest(PlanCase):
                 self.assert_raises_exactly(PlanFinished, plan.advance)
                 self.assert_raises_exactly(NothingToUndo, plan.back)
                 self.assert_same([plan.finish(), plan.abandon()], [0, 0])
-                plan = plan.turned()
-        self.assert_same(Plan(CLOSE, OLD, OLD).current, OLD)
+                plan = plan.turned().copy()
+        self.assert_same(Plan(CLOSE, OLD, OLD).copy().current, OLD)
 
     def test_blocks_move_together(self):
         system = System(["a", "b", "c"], [("a", "b", 2), ("b", "a", -2), ("b", "c", 0)])

@@ -1,12 +1,13 @@
 """The text of a system, written and read."""
 
 from windowsteps.errors import ParseError
+from windowsteps.figures import is_number
 from windowsteps.kinds import is_name
 from windowsteps.systems import System, rank
 
 HEADING = "settings"
 GROUND = "-"
-LONGEST_GAP = 4
+LONGEST_INTEGER = 6
 
 
 def format_system(system):
@@ -38,6 +39,21 @@ def format_rule(rule):
     return f"{low or GROUND} {high or GROUND} {gap}"
 
 
+def parse_thing(word):
+    """The setting or the ground that a word stands for; any other word stays as it is."""
+    return None if word == GROUND else word
+
+
+def parse_integer(word):
+    """The integer from -99999 to 99999 that a word writes, or None."""
+    # The length comes first: Python refuses to read integers of thousands of digits.
+    if len(word) > LONGEST_INTEGER or not word.isascii() or not word.removeprefix("-").isdigit():
+        return None
+    integer = int(word)
+    # Written again, an integer with a leading zero or as "-0" looks otherwise.
+    return integer if is_number(integer) and str(integer) == word else None
+
+
 def _parsed_names(heading):
     first, *names = heading.split(" ")
     if first != HEADING or not all([is_name(name) for name in names]):
@@ -49,20 +65,14 @@ def _parsed_names(heading):
 
 def _parsed_rule(line, names):
     words = line.split(" ")
-    if len(words) != 3 or not _may_be_integer(words[2]):
+    if len(words) != 3:
         return None
-    low, high = [None if word == GROUND else word for word in words[:2]]
-    rule = (low, high, int(words[2]))
+    low, high = [parse_thing(word) for word in words[:2]]
+    rule = (low, high, parse_integer(words[2]))
     ends = [None, *names]
     if not System.is_rule(rule) or low not in ends or high not in ends:
         return None
-    # Written again, an integer with a leading zero or as "-0" looks otherwise.
-    return rule if format_rule(rule) == line else None
-
-
-def _may_be_integer(word):
-    # The length comes first: Python refuses to read integers of thousands of digits.
-    return len(word) <= LONGEST_GAP and word.isascii() and word.removeprefix("-").isdigit()
+    return rule
 
 
 def _may_follow(rules, rule):
